@@ -1,6 +1,9 @@
 package dyad
 
-import "cusp/api"
+import (
+	"cusp/api"
+	"cusp/natural"
+)
 
 // Floor is the greatest multiple of 2 to the -place that is not above a, and whether it is a.
 func Floor(a Num, place int) (Num, bool, api.Errno) {
@@ -20,7 +23,7 @@ func Quo(a, b Num, place int) (Num, bool, api.Errno) {
 		return Num{}, false, api.ErrZero
 	}
 	m, d, _ := aligned(Num{M: a.M, E: a.E + place}, b)
-	q, exact := divide(m, d)
+	q, exact := natural.Quo(m, d)
 	return lower(a.Neg != b.Neg, q, place, exact)
 }
 
@@ -42,22 +45,22 @@ func isPlace(place int) bool { return place >= -MaxBits && place <= MaxBits }
 func scaled(a Num, place int) ([]uint32, bool) {
 	k := a.E + place
 	if k >= 0 {
-		return shiftLeft(a.M, k), true
+		return natural.Left(a.M, k), true
 	}
-	return shiftRight(a.M, -k), len(a.M) == 0 // M is odd: whatever is cut off is not 0
+	return natural.Right(a.M, -k), len(a.M) == 0 // M is odd: whatever is cut off is not 0
 }
 
 // rootAt is the whole part of a's square root times 2 to the place, and whether it is all of it.
 func rootAt(a Num, place int) ([]uint32, bool) {
 	square, whole := scaled(a, 2*place)
-	m, exact := rootDigits(square)
+	m, exact := natural.Root(square)
 	return m, whole && exact
 }
 
 // lower answers m multiples of 2 to the -place; below nought, where that isn't all, one more.
 func lower(neg bool, m []uint32, place int, exact bool) (Num, bool, api.Errno) {
 	if neg && !exact {
-		m = addDigits(m, digitsOf(1))
+		m = natural.Add(m, natural.Of(1))
 	}
 	q, err := bounded(normal(neg, m, -place))
 	return q, exact && err == api.OK, err

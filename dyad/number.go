@@ -5,6 +5,7 @@ import (
 	"slices"
 
 	"cusp/api"
+	"cusp/natural"
 )
 
 // The functions of this file take and answer Nums in their one form, but of any length: what is on the way to an answer may be longer than the answer.
@@ -29,12 +30,12 @@ func bounded(a Num) (Num, api.Errno) {
 
 // normal is the Num of the digits m (in new memory) times 2 to the e.
 func normal(neg bool, m []uint32, e int) Num {
-	m = trim(m)
+	m = natural.Trim(m)
 	if len(m) == 0 {
 		return Num{}
 	}
-	low := trailing(m)
-	return Num{Neg: neg, M: shiftRight(m, low), E: e + low}
+	low := natural.Trailing(m)
+	return Num{Neg: neg, M: natural.Right(m, low), E: e + low}
 }
 
 func negated(a Num) Num {
@@ -51,12 +52,12 @@ func sign(a Num) int {
 	return 1
 }
 
-func top(a Num) int { return length(a.M) + a.E }
+func top(a Num) int { return natural.Length(a.M) + a.E }
 
 // aligned are the digits of two numbers at one exponent, the lesser one of theirs.
 func aligned(a, b Num) ([]uint32, []uint32, int) {
 	e := min(a.E, b.E)
-	return shiftLeft(a.M, a.E-e), shiftLeft(b.M, b.E-e), e
+	return natural.Left(a.M, a.E-e), natural.Left(b.M, b.E-e), e
 }
 
 func compare(a, b Num) int {
@@ -70,7 +71,7 @@ func compare(a, b Num) int {
 		return s * cmp.Compare(top(a), top(b))
 	}
 	m, n, _ := aligned(a, b)
-	return s * compareDigits(m, n)
+	return s * natural.Cmp(m, n)
 }
 
 func sum(a, b Num) Num {
@@ -83,13 +84,13 @@ func sum(a, b Num) Num {
 	m, n, e := aligned(a, b)
 	switch {
 	case a.Neg == b.Neg:
-		return normal(a.Neg, addDigits(m, n), e)
-	case compareDigits(m, n) < 0:
-		return normal(b.Neg, subDigits(n, m), e)
+		return normal(a.Neg, natural.Add(m, n), e)
+	case natural.Cmp(m, n) < 0:
+		return normal(b.Neg, natural.Sub(n, m), e)
 	}
-	return normal(a.Neg, subDigits(m, n), e)
+	return normal(a.Neg, natural.Sub(m, n), e)
 }
 
 func product(a, b Num) Num {
-	return normal(a.Neg != b.Neg, mulDigits(a.M, b.M), a.E+b.E)
+	return normal(a.Neg != b.Neg, natural.Mul(a.M, b.M), a.E+b.E)
 }

@@ -5,6 +5,7 @@ import (
 
 	"cusp/api"
 	"cusp/ieee"
+	"cusp/natural"
 )
 
 // A float has 53 binary digits: 64 of a number, the last one set if more follow, round as the number does.
@@ -31,8 +32,8 @@ func Ratio(a, b Num, mode int) (float64, api.Errno) {
 	case len(a.M) == 0:
 		return 0, api.OK
 	}
-	k := max(0, enough+length(b.M)-length(a.M))
-	q, exact := divide(shiftLeft(a.M, k), b.M)
+	k := max(0, enough+natural.Length(b.M)-natural.Length(a.M))
+	q, exact := natural.Quo(natural.Left(a.M, k), b.M)
 	return toFloat(a.Neg != b.Neg, q, a.E-b.E-k, exact, mode), api.OK
 }
 
@@ -44,11 +45,11 @@ func Sqrt(a Num, mode int) (float64, api.Errno) {
 	case a.Neg:
 		return 0, api.ErrDom
 	}
-	k := max(0, 2*enough-length(a.M))
+	k := max(0, 2*enough-natural.Length(a.M))
 	if (a.E-k)%2 != 0 {
 		k++
 	}
-	r, exact := rootDigits(shiftLeft(a.M, k))
+	r, exact := natural.Root(natural.Left(a.M, k))
 	return toFloat(false, r, (a.E-k)/2, exact, mode), api.OK
 }
 
@@ -62,13 +63,13 @@ func Up(c, p, q Num) (float64, api.Errno) {
 	}
 	rootP, exactP := rootAt(p, finePlace)
 	rootQ, exactQ := rootAt(q, finePlace)
-	low := sum(c, normal(false, addDigits(rootP, rootQ), -finePlace))
+	low := sum(c, normal(false, natural.Add(rootP, rootQ), -finePlace))
 	f := rounded(low, api.Up)
 	if exactP && exactQ || math.IsInf(f, 0) {
 		return f, api.OK
 	}
 	// The sum is not below low, and is below high: at most one float, f, lies between.
-	high := sum(low, Num{M: digitsOf(1), E: 1 - finePlace})
+	high := sum(low, Num{M: natural.Of(1), E: 1 - finePlace})
 	if ieee.Same(f, rounded(high, api.Up)) {
 		return f, api.OK
 	}
@@ -103,12 +104,9 @@ func rounded(a Num, mode int) float64 { return toFloat(a.Neg, a.M, a.E, true, mo
 
 // toFloat is m times 2 to the e, rounded; if that is not exact, it stands for more than m, but less than m + 1, and m has at least 64 binary digits.
 func toFloat(neg bool, m []uint32, e int, exact bool, mode int) float64 {
-	drop := max(0, length(m)-enough)
-	word := uint64(0)
-	for i, d := range shiftRight(m, drop) {
-		word |= uint64(d) << (width * i)
-	}
-	if !exact || drop > 0 && trailing(m) < drop {
+	drop := max(0, natural.Length(m)-enough)
+	word := natural.Word(natural.Right(m, drop))
+	if !exact || drop > 0 && natural.Trailing(m) < drop {
 		word |= 1
 	}
 	return ieee.Make(neg, word, e+drop, mode)

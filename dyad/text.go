@@ -5,11 +5,12 @@ import (
 	"strings"
 
 	"cusp/api"
+	"cusp/natural"
 )
 
 const (
-	textWidth = width / 4     // digits in base 16 of a digit
-	maxText   = MaxBits/4 + 8 // a minus, the digits, a p, E with its minus
+	textWidth = natural.Width / 4 // digits in base 16 of a digit
+	maxText   = MaxBits/4 + 8     // a minus, the digits, a p, E with its minus
 )
 
 // Show is a Num as text.
@@ -47,7 +48,7 @@ func Read(s string) (Num, api.Errno) {
 	if err != nil {
 		return Num{}, api.ErrForm
 	}
-	a := Num{Neg: neg, M: trim(readDigits(digits)), E: e}
+	a := Num{Neg: neg, M: natural.Trim(readDigits(digits)), E: e}
 	if Show(a) != s { // needless noughts, an even M, capitals: whatever no Num is shown by
 		return Num{}, api.ErrForm
 	}
@@ -59,7 +60,7 @@ func readDigits(s string) []uint32 {
 	m := make([]uint32, (len(s)+textWidth-1)/textWidth)
 	for i := range m {
 		end := len(s) - textWidth*i
-		d, _ := strconv.ParseUint(s[max(0, end-textWidth):end], 16, width)
+		d, _ := strconv.ParseUint(s[max(0, end-textWidth):end], 16, natural.Width)
 		m[i] = uint32(d)
 	}
 	return m

@@ -1,21 +1,33 @@
-package dyad
+package natural
 
 import "math/bits"
 
-// divide is m over d, that is not 0: the whole quotient, and whether nothing is left over.
-func divide(m, d []uint32) ([]uint32, bool) {
-	if compareDigits(m, d) < 0 {
+// Quo is m over d, that is not 0: the whole quotient, and whether nothing is left over.
+func Quo(m, d []uint32) ([]uint32, bool) {
+	if Cmp(m, d) < 0 {
 		return nil, len(m) == 0
 	}
 	// With the highest bit of d set a guess from the highest digits is at most a little too great.
 	spare := bits.LeadingZeros32(d[len(d)-1])
-	d = shiftLeft(d, spare)
-	rest := append(shiftLeft(m, spare), 0) // a digit above all, for the first guess
+	d = Left(d, spare)
+	rest := append(Left(m, spare), 0) // a digit above all, for the first guess
 	out := make([]uint32, len(rest)-len(d))
 	for i := len(out) - 1; i >= 0; i-- {
 		out[i] = takeOut(rest[i:i+len(d)+1], d)
 	}
-	return trim(out), len(trim(rest)) == 0
+	return Trim(out), len(Trim(rest)) == 0
+}
+
+// QuoDigit is m over one digit, that is not 0: the whole quotient, and what is left over.
+func QuoDigit(m []uint32, d uint32) ([]uint32, uint32) {
+	out := make([]uint32, len(m))
+	rest := uint64(0)
+	for i := len(m) - 1; i >= 0; i-- {
+		rest = rest<<Width | uint64(m[i])
+		out[i] = uint32(rest / uint64(d))
+		rest %= uint64(d)
+	}
+	return Trim(out), uint32(rest)
 }
 
 // takeOut leaves of rest (a digit longer than d, and below d times 2^32) what d does not go into, and tells how often it went.
@@ -31,13 +43,13 @@ func takeOut(rest, d []uint32) uint32 {
 // guess tells how often d goes into rest, or one more than that.
 func guess(rest, d []uint32) uint32 {
 	n := len(d)
-	high, first := uint64(rest[n])<<width|uint64(rest[n-1]), uint64(d[n-1])
-	times := min(high/first, 1<<width-1)
+	high, first := uint64(rest[n])<<Width|uint64(rest[n-1]), uint64(d[n-1])
+	times := min(high/first, 1<<Width-1)
 	if n == 1 {
 		return uint32(times)
 	}
 	left := high - times*first
-	for left < 1<<width && times*uint64(d[n-2]) > left<<width|uint64(rest[n-2]) {
+	for left < 1<<Width && times*uint64(d[n-2]) > left<<Width|uint64(rest[n-2]) {
 		times--
 		left += first
 	}
@@ -50,7 +62,7 @@ func lessTimes(rest, d []uint32, times uint32) bool {
 	for i, x := range d {
 		carry += uint64(x) * uint64(times)
 		rest[i], borrow = bits.Sub32(rest[i], uint32(carry), borrow)
-		carry >>= width
+		carry >>= Width
 	}
 	rest[len(d)], borrow = bits.Sub32(rest[len(d)], uint32(carry), borrow)
 	return borrow != 0
@@ -65,23 +77,23 @@ func giveBack(rest, d []uint32) {
 	rest[len(d)] += carry
 }
 
-// rootDigits is the whole part of the square root, and whether it is the root.
-func rootDigits(n []uint32) ([]uint32, bool) {
+// Root is the whole part of the square root, and whether it is the root.
+func Root(n []uint32) ([]uint32, bool) {
 	if len(n) == 0 {
 		return nil, true
 	}
 	// Each step is one of Newton's on the highest binary digits of n, and makes the known ones of the root twice as many. Always (root-1)^2 < those of n < (root+1)^2.
-	half := (length(n) - 1) / 2
-	root, known := digitsOf(1), 0
+	half := (Length(n) - 1) / 2
+	root, known := Of(1), 0
 	for s := bits.Len(uint(half)) - 1; s >= 0; s-- {
 		before := known
 		known = half >> s
-		more, _ := divide(shiftRight(n, 2*half-before-known+1), root)
-		root = addDigits(shiftLeft(root, known-before-1), more)
+		more, _ := Quo(Right(n, 2*half-before-known+1), root)
+		root = Add(Left(root, known-before-1), more)
 	}
-	far := compareDigits(mulDigits(root, root), n)
+	far := Cmp(Mul(root, root), n)
 	if far > 0 {
-		root = subDigits(root, digitsOf(1))
+		root = Sub(root, Of(1))
 	}
 	return root, far == 0
 }

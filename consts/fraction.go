@@ -1,0 +1,39 @@
+package consts
+
+import "cusp/natural"
+
+// fraction is p / q.
+type fraction struct{ p, q uint64 }
+
+// between is the fraction with the least denominator of all between two that are neighbours (among those with no greater denominators than theirs), and is neighbour to both.
+func between(f, g fraction) fraction { return fraction{p: f.p + g.p, q: f.q + g.q} }
+
+// middle is half of the sum of two fractions. (No p is above 7 * q, for the greatest constant, 2 pi, is below 7; and no q is above 2^30: all fits into a word.)
+func middle(f, g fraction) fraction {
+	return fraction{p: f.p*g.q + g.p*f.q, q: 2 * f.q * g.q}
+}
+
+// best is the fraction nearest to the number of those with a denominator of at most most, and whether that is settled.
+func (b bounds) best(most uint64) (fraction, bool) {
+	floor, settled := b.floor(natural.Of(1))
+	whole := natural.Word(floor)
+	below, above := fraction{whole, 1}, fraction{whole + 1, 1}
+	for settled && below.q+above.q <= most {
+		below, above, settled = b.narrowed(below, above, between(below, above))
+	}
+	// They are neighbours among all with such denominators: no other is nearer.
+	side, last := b.against(middle(below, above))
+	if side > 0 {
+		return above, settled && last
+	}
+	return below, settled && last
+}
+
+// narrowed are the two of three fractions that the number lies between: inner stands between the others.
+func (b bounds) narrowed(below, above, inner fraction) (fraction, fraction, bool) {
+	side, settled := b.against(inner)
+	if side > 0 {
+		return inner, above, settled
+	}
+	return below, inner, settled
+}
