@@ -1,6 +1,9 @@
 package consts
 
-import "cusp/natural"
+import (
+	"cusp/fixed"
+	"cusp/natural"
+)
 
 // fraction is p / q.
 type fraction struct{ p, q uint64 }
@@ -14,15 +17,15 @@ func middle(f, g fraction) fraction {
 }
 
 // best is the fraction nearest to the number of those with a denominator of at most most, and whether that is settled.
-func (b bounds) best(most uint64) (fraction, bool) {
-	floor, settled := b.floor(natural.Of(1))
-	whole := natural.Word(floor)
+func best(b fixed.Bounds, most uint64) (fraction, bool) {
+	first, settled := floor(b, natural.Of(1))
+	whole := natural.Word(first)
 	below, above := fraction{whole, 1}, fraction{whole + 1, 1}
 	for settled && below.q+above.q <= most {
-		below, above, settled = b.narrowed(below, above, between(below, above))
+		below, above, settled = narrowed(b, below, above, between(below, above))
 	}
 	// They are neighbours among all with such denominators: no other is nearer.
-	side, last := b.against(middle(below, above))
+	side, last := against(b, middle(below, above))
 	if side > 0 {
 		return above, settled && last
 	}
@@ -30,8 +33,8 @@ func (b bounds) best(most uint64) (fraction, bool) {
 }
 
 // narrowed are the two of three fractions that the number lies between: inner stands between the others.
-func (b bounds) narrowed(below, above, inner fraction) (fraction, fraction, bool) {
-	side, settled := b.against(inner)
+func narrowed(b fixed.Bounds, below, above, inner fraction) (fraction, fraction, bool) {
+	side, settled := against(b, inner)
 	if side > 0 {
 		return inner, above, settled
 	}

@@ -4,6 +4,7 @@ import (
 	"testing"
 
 	"cusp/api"
+	"cusp/fixed"
 	"cusp/natural"
 )
 
@@ -15,11 +16,11 @@ func TestBoundsHold(t *testing.T) {
 		exact := near(kind, fine)
 		for places := 32; places < 400; places++ {
 			b := near(kind, places)
-			k := exact.places - b.places
-			if natural.Cmp(natural.Left(b.lo, k), exact.lo) > 0 || natural.Cmp(natural.Left(b.hi, k), exact.hi) < 0 {
+			k := exact.Places - b.Places
+			if natural.Cmp(natural.Left(b.Lo, k), exact.Lo) > 0 || natural.Cmp(natural.Left(b.Hi, k), exact.Hi) < 0 {
 				t.Errorf("near(%d, %d) does not hold the constant", kind, places)
 			}
-			if apart := natural.Sub(b.hi, b.lo); natural.Length(apart) > 16 {
+			if apart := natural.Sub(b.Hi, b.Lo); natural.Length(apart) > 16 {
 				t.Errorf("near(%d, %d) is %x apart", kind, places, apart)
 			}
 		}
@@ -33,7 +34,7 @@ func TestSettledIsRight(t *testing.T) {
 		exact := near(kind, fine)
 		for places := 60; places < 72; places++ {
 			for n := uint64(1); n < 200; n++ {
-				if !agree(t, near(kind, places).times(n), exact.times(n), kind, places) {
+				if !agree(t, near(kind, places).Times(n), exact.Times(n), kind, places) {
 					open++
 				}
 			}
@@ -46,10 +47,10 @@ func TestSettledIsRight(t *testing.T) {
 }
 
 // agree tells whether b settles the interval, which must be that of exact bounds then.
-func agree(t *testing.T, b, exact bounds, kind, places int) bool {
+func agree(t *testing.T, b, exact fixed.Bounds, kind, places int) bool {
 	t.Helper()
-	got, settled := b.tight()
-	want, sure := exact.tight()
+	got, settled := b.Tight()
+	want, sure := exact.Tight()
 	if settled && got != want || !sure {
 		t.Errorf("constant %d with %d places: %x, want %x (%v)", kind, places, got, want, sure)
 	}
@@ -57,12 +58,12 @@ func agree(t *testing.T, b, exact bounds, kind, places int) bool {
 }
 
 // fractionsOpen is how many questions for fractions and digits b leaves open; what it settles must be right.
-func fractionsOpen(t *testing.T, b, exact bounds) int {
+func fractionsOpen(t *testing.T, b, exact fixed.Bounds) int {
 	t.Helper()
 	open := 0
 	for most := uint64(1); most <= maxBelow; most *= 2 {
-		got, settled := b.best(most)
-		if want, sure := exact.best(most); settled && got != want || !sure {
+		got, settled := best(b, most)
+		if want, sure := best(exact, most); settled && got != want || !sure {
 			t.Errorf("best of %d: %v, want %v (%v)", most, got, want, sure)
 		}
 		if !settled {
@@ -70,8 +71,8 @@ func fractionsOpen(t *testing.T, b, exact bounds) int {
 		}
 	}
 	for n := range 30 {
-		got, settled := b.floor(tenTo(n))
-		if want, sure := exact.floor(tenTo(n)); settled && natural.Cmp(got, want) != 0 || !sure {
+		got, settled := floor(b, tenTo(n))
+		if want, sure := floor(exact, tenTo(n)); settled && natural.Cmp(got, want) != 0 || !sure {
 			t.Errorf("%d digits: %x, want %x (%v)", n, got, want, sure)
 		}
 		if !settled {
@@ -84,28 +85,28 @@ func fractionsOpen(t *testing.T, b, exact bounds) int {
 // TestOpenOnEdges: bounds on both sides of a float or a fraction settle nothing.
 func TestOpenOnEdges(t *testing.T) {
 	one := natural.Of(1)
-	edge := wholeBounds(3, 128)
-	b := bounds{lo: natural.Sub(edge.lo, one), hi: natural.Add(edge.hi, one), places: 128}
-	if s, settled := b.tight(); settled {
+	edge := fixed.Whole(3, 128)
+	b := fixed.Bounds{Lo: natural.Sub(edge.Lo, one), Hi: natural.Add(edge.Hi, one), Places: 128}
+	if s, settled := b.Tight(); settled {
 		t.Errorf("tight = %x", s)
 	}
-	if n, settled := b.floor(one); settled {
+	if n, settled := floor(b, one); settled {
 		t.Errorf("floor = %x", n)
 	}
-	if side, settled := b.against(fraction{3, 1}); settled {
+	if side, settled := against(b, fraction{3, 1}); settled {
 		t.Errorf("against = %d", side)
 	}
 	for _, most := range []uint64{1, 2, 10, maxBelow} {
-		if f, settled := b.best(most); settled {
+		if f, settled := best(b, most); settled {
 			t.Errorf("best = %v", f)
 		}
 	}
-	above := bounds{lo: edge.lo, hi: b.hi, places: 128}
-	if s, settled := above.tight(); !settled || s != (api.Interval{Lo: 3, Hi: 0x1.8000000000001p1}) {
+	above := fixed.Bounds{Lo: edge.Lo, Hi: b.Hi, Places: 128}
+	if s, settled := above.Tight(); !settled || s != (api.Interval{Lo: 3, Hi: 0x1.8000000000001p1}) {
 		t.Errorf("just above 3: tight = %x, %v", s, settled)
 	}
-	below := bounds{lo: b.lo, hi: edge.lo, places: 128}
-	if side, settled := below.against(fraction{3, 1}); side != -1 || !settled {
+	below := fixed.Bounds{Lo: b.Lo, Hi: edge.Lo, Places: 128}
+	if side, settled := against(below, fraction{3, 1}); side != -1 || !settled {
 		t.Errorf("just below 3: against = %d, %v", side, settled)
 	}
 }
