@@ -39,13 +39,23 @@ func (b Bounds) Plus(c Bounds) Bounds {
 	return Bounds{Lo: natural.Add(b.Lo, c.Lo), Hi: natural.Add(b.Hi, c.Hi), Places: b.Places}
 }
 
-// Minus is b less c, all of which is not above b.
+// Minus is b less c, that is not above it.
 func (b Bounds) Minus(c Bounds) Bounds {
-	return Bounds{Lo: natural.Sub(b.Lo, c.Hi), Hi: natural.Sub(b.Hi, c.Lo), Places: b.Places}
+	return Bounds{Lo: less(b.Lo, c.Hi), Hi: less(b.Hi, c.Lo), Places: b.Places}
 }
 
-func (b Bounds) Times(n uint64) Bounds {
-	m := natural.Of(n)
+// less is a - b, or 0, if that is below 0: no number that is held is.
+func less(a, b []uint32) []uint32 {
+	if natural.Cmp(a, b) < 0 {
+		return nil
+	}
+	return natural.Sub(a, b)
+}
+
+func (b Bounds) Times(n uint64) Bounds { return b.TimesLong(natural.Of(n)) }
+
+// TimesLong is b times a whole number of any length.
+func (b Bounds) TimesLong(m []uint32) Bounds {
 	return Bounds{Lo: natural.Mul(b.Lo, m), Hi: natural.Mul(b.Hi, m), Places: b.Places}
 }
 
@@ -57,6 +67,12 @@ func (b Bounds) Over(c Bounds) Bounds {
 }
 
 func (b Bounds) Halved() Bounds { return Bounds{Lo: b.Lo, Hi: b.Hi, Places: b.Places + 1} }
+
+// Cut holds the number with so many places, no more than it had.
+func (b Bounds) Cut(places int) Bounds {
+	drop := b.Places - places
+	return Bounds{Lo: natural.Right(b.Lo, drop), Hi: natural.Add(natural.Right(b.Hi, drop), natural.Of(1)), Places: places}
+}
 
 // Tight is the least interval that holds the number, that is no fraction and so lies between two floats; and whether that is settled: between the same two lie both bounds.
 func (b Bounds) Tight() (api.Interval, bool) {

@@ -54,6 +54,34 @@ func TestOperations(t *testing.T) {
 	}
 }
 
+// TestMinusNearNought: the difference of numbers that are nearly alike is not below 0.
+func TestMinusNearNought(t *testing.T) {
+	b, c := fixed.Short(natural.Of(20), 5, 4), fixed.Short(natural.Of(22), 2, 4)
+	check(t, "Minus", b.Minus(c), rat(0, 1), rat(3, 16))
+	check(t, "Minus", c.Minus(b), rat(0, 1), rat(4, 16))
+	check(t, "Minus", b.Minus(b), rat(0, 1), rat(5, 16))
+	check(t, "Minus", fixed.Whole(3, 4).Minus(fixed.Whole(3, 4)), rat(0, 1), rat(0, 1))
+}
+
+func TestTimesLong(t *testing.T) {
+	long := natural.Left(natural.Of(5), 90)
+	want := new(big.Rat).SetInt(new(big.Int).Lsh(big.NewInt(5), 90))
+	check(t, "TimesLong", fixed.Short(natural.Of(16), 32, 4).TimesLong(long), want, new(big.Rat).Mul(want, rat(3, 1)))
+	check(t, "TimesLong", fixed.Short(natural.Of(16), 32, 4).TimesLong(nil), rat(0, 1), rat(0, 1))
+}
+
+func TestCut(t *testing.T) {
+	b := fixed.Short(natural.Of(1000), 77, 10)
+	for places := range 11 {
+		drop := int64(1) << (10 - places)
+		cut := b.Cut(places)
+		check(t, "Cut", cut, rat(1000/drop, 1<<places), rat(1077/drop+1, 1<<places))
+		if cut.Places != places {
+			t.Errorf("%d places, want %d", cut.Places, places)
+		}
+	}
+}
+
 // beside is 2^k and n times 2^-places.
 func beside(k, n, places int) []uint32 {
 	m := natural.Left(natural.Of(1), k+places)

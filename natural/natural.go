@@ -37,7 +37,7 @@ func Trailing(m []uint32) int {
 	return Width*i + bits.TrailingZeros32(m[i])
 }
 
-// Word is a number below 2^64.
+// Word is a number below 2^64; of a greater one it is the lowest 64 binary digits.
 func Word(m []uint32) uint64 {
 	n := uint64(0)
 	for i, d := range m {

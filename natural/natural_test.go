@@ -148,6 +148,12 @@ func TestWords(t *testing.T) {
 			t.Errorf("Word(Of(%x)) = %x", n, natural.Word(m))
 		}
 	}
+	for range 500 {
+		m := r.digits(8)
+		if want := new(big.Int).And(toBig(m), new(big.Int).SetUint64(math.MaxUint64)); natural.Word(m) != want.Uint64() {
+			t.Errorf("Word(%x) = %x", m, natural.Word(m))
+		}
+	}
 	if got := natural.Trim([]uint32{0, 3, 0, 0}); !slices.Equal(got, []uint32{0, 3}) {
 		t.Errorf("Trim = %x", got)
 	}
